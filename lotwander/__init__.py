@@ -1,0 +1,1 @@
+"""Lotwander: walks by chance, reckoned exactly."""
