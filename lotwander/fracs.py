@@ -67,3 +67,22 @@ def total(fractions):
     for fraction in fractions:
         together = plus(together, fraction)
     return together
+
+
+def cleared(row, chosen, place, before):
+    return [(chosen[place] * row[column] - row[place] * chosen[column]) // before for column in range(len(row))]
+
+
+def solved(matrix, sides):
+    # Whole numbers up to the end, since reducing at each step is slow; a division by the pivot before leaves no rest.
+    # No rows are swapped: a matrix handed in here tells what leaves some rooms that are all left for good at last,
+    # and in such a one no pivot is nought.
+    rows = [matrix[place] + [sides[place]] for place in range(len(sides))]
+    before = 1
+    for place in range(len(sides)):
+        chosen = rows[place]
+        others = [cleared(row, chosen, place, before) for row in rows]
+        others[place] = chosen
+        rows = others
+        before = chosen[place]
+    return [reduced(row[-1], before) for row in rows]

@@ -47,6 +47,42 @@ def checked_room(room, count):
     return room
 
 
+def is_some_rooms(thing, count):
+    if not isinstance(thing, list):
+        return False
+    last = -1
+    for room in thing:
+        if not is_room(room, count) or room <= last:
+            return False
+        last = room
+    return True
+
+
+def checked_rooms(rooms, count):
+    if not is_some_rooms(rooms, count):
+        raise NoRooms("these are not some rooms of the walk")
+    return rooms
+
+
+def steps_to_rooms(walk, start):
+    # For each room that can be come to from the start, the length of a shortest way there.
+    steps = {start: 0}
+    found = [start]
+    place = 0
+    while place < len(found):
+        room = found[place]
+        for target, share in walk[room]:
+            if target not in steps:
+                steps[target] = steps[room] + 1
+                found.append(target)
+        place = place + 1
+    return steps
+
+
+def rooms_from(walk, start):
+    return sorted(steps_to_rooms(walk, start))
+
+
 def lower_for_all(walk):
     lower = 1
     for spread in walk:

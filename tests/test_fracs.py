@@ -1,3 +1,5 @@
+import copy
+import random
 import unittest
 from fractions import Fraction
 from math import gcd, lcm
@@ -62,6 +64,23 @@ class ReckoningTest(unittest.TestCase):
         self.assertEqual(fracs.total([]), (0, 1))
         self.assertEqual(fracs.total([(1, 3), (1, 6), (1, 2)]), (1, 1))
         self.assertEqual(fracs.total(((1, 3), (1, 6))), (1, 2))
+
+    def test_solved(self):
+        self.assertEqual(fracs.solved([], []), [])
+        self.assertEqual(fracs.solved([[4]], [6]), [(3, 2)])
+        source = random.Random(4)
+        for count in range(1, 9):
+            for size in (3, 10 ** 20):
+                # What leaves each room is more than what goes from it to the others: then there is one answer.
+                matrix = [[-source.randint(0, size) for column in range(count)] for row in range(count)]
+                for place in range(count):
+                    matrix[place][place] = 1 - sum(matrix[place]) + matrix[place][place]
+                sides = [source.randint(-size, size) for row in range(count)]
+                kept = copy.deepcopy((matrix, sides))
+                told = [Fraction(*part) for part in fracs.solved(matrix, sides)]
+                self.assertEqual((matrix, sides), kept)
+                for row, side in zip(matrix, sides):
+                    self.assertEqual(sum(weight * part for weight, part in zip(row, told)), side)
 
 
 if __name__ == "__main__":

@@ -13,7 +13,9 @@ class ReadmeTest(unittest.TestCase):
 
     def test_it_says_how_to_use_each_function_and_how_to_run_the_tests(self):
         text = README.read_text(encoding="utf-8")
-        for words in ("checked(walk)", "after(walk, start, steps)", "unittest discover -s tests", "bash .ci/run"):
+        for words in ("checked(walk)", "after(walk, start, steps)", "chances(walk, goals)", "waits(walk, goals)",
+                      "ends(walk)", "long_run(walk, start)", "beat(walk, start)", "likeness(walk, marks)",
+                      "put_together(walk, marks)", "unittest discover -s tests", "bash .ci/run"):
             with self.subTest(words=words):
                 self.assertIn(words, text)
 

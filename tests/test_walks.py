@@ -6,24 +6,7 @@ from fractions import Fraction
 from lotwander.errors import ChanceError, NoRooms, NoWalk
 from lotwander.fracs import is_fraction
 from lotwander.walks import after, checked
-
-ONE = (1, 1)
-HALF = (1, 2)
-STAY = (((0, ONE),),)
-SWAP = (((1, ONE),), ((0, ONE),))
-THIRDS = (((0, (1, 3)), (1, (2, 3))), ((0, ONE),))
-EIGHT = tuple(((room + 1) % 8, ONE) for room in range(8))
-RING = tuple((pair,) for pair in EIGHT)
-WIDE = tuple(tuple((room, (1, 8)) for room in range(8)) for start in range(8))
-
-
-class Odd:
-    # A thing that bears nothing to be done with it.
-    def fail(self, *others):
-        raise RuntimeError("asked too much")
-
-    __eq__ = __ne__ = __lt__ = __gt__ = __le__ = __ge__ = fail
-    __len__ = __iter__ = __getitem__ = __bool__ = __repr__ = __str__ = __hash__ = __int__ = __index__ = fail
+from tests.samples import HALF, ONE, RING, STAY, SWAP, THIRDS, WIDE, Odd, some_walk
 
 
 def two_rooms_with(spread):
@@ -32,17 +15,6 @@ def two_rooms_with(spread):
 
 def two_rooms_sharing(share):
     return two_rooms_with(((0, share), (1, HALF)))
-
-
-def some_walk(source):
-    count = source.randint(1, 8)
-    walk = []
-    for start in range(count):
-        rooms = sorted(source.sample(range(count), source.randint(1, count)))
-        parts = [source.randint(1, 9) for room in rooms]
-        shares = [Fraction(part, sum(parts)) for part in parts]
-        walk.append(tuple((room, (share.numerator, share.denominator)) for room, share in zip(rooms, shares)))
-    return tuple(walk)
 
 
 def step_by_step(walk, start, steps):
