@@ -15,7 +15,11 @@ class ReadmeTest(unittest.TestCase):
         text = README.read_text(encoding="utf-8")
         for words in ("checked(walk)", "after(walk, start, steps)", "chances(walk, goals)", "waits(walk, goals)",
                       "ends(walk)", "long_run(walk, start)", "beat(walk, start)", "likeness(walk, marks)",
-                      "put_together(walk, marks)", "unittest discover -s tests", "bash .ci/run"):
+                      "put_together(walk, marks)", "checked_choice(choice)", "picked(choice, picks)",
+                      "most(choice, goals)", "least(choice, goals)", "least_costs(choice, costs, goals)",
+                      "chance_of(walk, begin, marks, seen)", "where(walk, begin, marks, seen)",
+                      "likeliest(walk, begin, marks, seen)", "shown(walk)", "read(text)",
+                      "unittest discover -s tests", "bash .ci/run"):
             with self.subTest(words=words):
                 self.assertIn(words, text)
 
